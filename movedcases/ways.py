@@ -8,8 +8,24 @@ LOST = 1
 OWED = 2
 
 
+def is_kept_end(machine, rules, spot):
+    """Whether a case may end at the spot, a pair of a place and marks, with all rules kept."""
+    return machine.ends[spot[0]] and are_kept_at(rules, spot[1])
+
+
+def spots_behind(machine, rules, spot):
+    """Pairs of a step and the spot behind it."""
+    return [(step, (place, marks_after(rules, spot[1], step))) for step, place in machine.ways[spot[0]]]
+
+
+def spots_at(machine, rules, stands, row):
+    """The spots of a case that stands there, with the marks behind the row."""
+    marks = marks_behind(rules, row)
+    return [(place, marks) for place in places_behind(machine, stands)]
+
+
 def reaches_kept_end(machine, rules, spots, passed):
-    """Whether from one of the spots, pairs of a place and marks, an end is reached at which all rules are kept.
+    """Whether from one of the spots an end is reached at which all rules are kept.
 
     Spots in passed aren't gone through again; all that are gone through come into it.
     So after a no they may be left out for good, and after a yes passed is of no use.
@@ -20,18 +36,36 @@ def reaches_kept_end(machine, rules, spots, passed):
         if spot in passed:
             continue
         passed[spot] = True
-        if machine.ends[spot[0]] and are_kept_at(rules, spot[1]):
+        if is_kept_end(machine, rules, spot):
             return True
-        for step, place in machine.ways[spot[0]]:
-            waiting.append((place, marks_after(rules, spot[1], step)))
+        for step, behind in spots_behind(machine, rules, spot):
+            waiting.append(behind)
     return False
 
 
 def can_be_kept(machine, rules, stands, row):
     """Whether some way on from where it stands, put behind the row, keeps all rules."""
-    marks = marks_behind(rules, row)
-    spots = [(place, marks) for place in places_behind(machine, stands)]
-    return reaches_kept_end(machine, rules, spots, {})
+    return reaches_kept_end(machine, rules, spots_at(machine, rules, stands, row), {})
+
+
+def earliest_way_on(machine, rules, stands, row):
+    """The earliest way on from where it stands that, put behind the row, keeps all rules; None if there's none."""
+    # All in waiting are as long as one another, the lower ones first: so the first to come to a spot,
+    # or to an end, is the earliest.
+    waiting = [((), spot) for spot in spots_at(machine, rules, stands, row)]
+    passed = {}
+    while len(waiting) > 0:
+        longer = []
+        for steps, spot in waiting:
+            if spot in passed:
+                continue
+            passed[spot] = True
+            if is_kept_end(machine, rules, spot):
+                return list(steps)
+            for step, behind in spots_behind(machine, rules, spot):
+                longer.append((steps + (step,), behind))
+        waiting = sorted(longer)
+    return None
 
 
 def put_in(waiting, entry):

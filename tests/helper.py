@@ -36,6 +36,8 @@ def in_row(*numbers):
 
 # Calls, to be put one behind another.
 OPEN = [3]
+LOST_CASES = [10]
+MOMENT = [11]
 
 
 def process(told):
@@ -60,6 +62,22 @@ def do(which, *numbers):
 
 def move(which):
     return [5, which]
+
+
+def case(time, which):
+    return [6, time, which]
+
+
+def allowed(time, which):
+    return [7, time, which]
+
+
+def finish(time, which):
+    return [8, time, which]
+
+
+def over(which):
+    return [9, which]
 
 
 def line(*calls):

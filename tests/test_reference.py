@@ -1,7 +1,8 @@
 """Long mixed lines, held against a plain account of the document's words.
 
 The account knows no machines and no marks: it writes out the cases of a process up to
-some length, asks rules of whole rows, and tries moves one after another.
+some length, asks rules of whole rows, and tries moves one after another. To tell of a
+moment, it does in a new house what had been done by then, and nothing else.
 """
 
 import functools
@@ -14,19 +15,40 @@ from tests import helper
 
 LONGEST = 11
 MOST_OWED = 6
+DOING = ("process", "rule", "price", "begin", "do", "move")
 
 
 def read(told):
-    """A process in numbers as a nested tuple."""
+    """A process in numbers as a nested tuple, or None if it isn't just a process."""
     def at(place):
         if told[place] == 0:
-            return (0, told[place + 1]), place + 2
+            return (0, (0, 1, 2, 3, 4, 5)[told[place + 1]]), place + 2
         if told[place] == 1:
             return (1,), place + 1
         first, place_behind = at(place + 1)
         second, end = at(place_behind)
-        return (told[place], first, second), end
-    return at(0)[0]
+        kind = (2, 3, 4, 5)[told[place] - 2]
+        if kind == 5 and () in cases_of(first, 0):
+            raise IndexError
+        return (kind, first, second), end
+    try:
+        tree, end = at(0)
+    except IndexError:
+        return None
+    return tree if end == len(told) and parts(tree) <= 9 else None
+
+
+def parts(tree):
+    return 1 + sum(parts(part) for part in tree[1:] if isinstance(part, tuple))
+
+
+def is_rule(told):
+    """Whether it's one of all rules there are."""
+    steps = range(5)
+    counts = [(kind, a, n) for kind in (0, 1) for a in steps for n in range(4)]
+    ends = [(kind, a) for kind in (2, 3) for a in steps]
+    pairs = [(kind, a, b) for kind in (4, 5, 6, 7, 8) for a in steps for b in steps if a != b]
+    return tuple(told) in counts + ends + pairs
 
 
 def shuffles(first, second):
@@ -92,51 +114,98 @@ class PlainHouse:
         self.rules = []
         self.prices = [[1] * 6, [1] * 6]
         self.cases = []
+        self.done_calls = []
+
+    def call(self, name, *handed):
+        answered = getattr(self, name)(*handed)
+        if name in DOING and answered[0] >= 0:
+            self.done_calls.append((name, handed))
+        return answered
+
+    def then(self, time):
+        house = PlainHouse()
+        for name, handed in self.done_calls[:time]:
+            house.call(name, *handed)
+        return house
 
     def keeps_all(self, row):
         return all(keeps(rule, row) for rule in self.rules)
 
-    def can_keep(self, number, stands, owed, done):
-        ways = ways_on(self.trees[number]).get(stands, [])
-        return any(self.keeps_all(done + owed + way) for way in ways)
+    def ways_that_keep(self, number, stands, owed, done):
+        """The ways on by which all rules are kept."""
+        return (way for way in ways_on(self.trees[number]).get(stands, []) if self.keeps_all(done + owed + way))
+
+    def can_keep(self, *case):
+        return any(True for way in self.ways_that_keep(*case))
+
+    def is_through(self, number, stands, owed, done):
+        return not owed and () in ways_on(self.trees[number])[stands] and self.keeps_all(done)
+
+    def after(self, step, number, stands, owed, done):
+        """The case with the step done, or None if it may not be done next."""
+        if owed:
+            return (number, stands, owed[1:], done + (step,)) if owed[0] == step else None
+        if stands + (step,) not in ways_on(self.trees[number]):
+            return None
+        return number, stands + (step,), (), done + (step,)
+
+    def refusal(self, *reasons):
+        """Of several the one told first: pairs of a number, and whether it's so (asked only if need be)."""
+        return next(([number] for number, is_so in reasons if is_so()), None)
+
+    def worn_out(self):
+        return len(self.done_calls) == 40
 
     def process(self, told):
-        self.trees.append(read(told))
+        tree = read(told)
+        refused = self.refusal((-1, lambda: tree is None), (-8, self.worn_out), (-7, lambda: len(self.trees) == 4))
+        if refused:
+            return refused
+        self.trees.append(tree)
         return [len(self.trees) - 1]
 
     def rule(self, *told):
+        refused = self.refusal(
+            (-1, lambda: not is_rule(told)), (-8, self.worn_out), (-7, lambda: len(self.rules) == 2))
+        if refused:
+            return refused
         self.rules.append(told)
-        return [len(self.rules) - 1, len([case for case in self.cases if not self.can_keep(*case)])]
+        return [len(self.rules) - 1, self.lost()[0]]
 
     def price(self, kind, step, cost):
+        wrong = kind not in (0, 1) or step not in range(6) or cost not in range(1, 101)
+        refused = self.refusal((-1, lambda: wrong), (-8, self.worn_out))
+        if refused:
+            return refused
         self.prices[kind][step] = cost
         return [0]
 
     def begin(self):
+        refused = self.refusal((-8, self.worn_out), (-7, lambda: len(self.cases) == 3))
+        if refused:
+            return refused
         self.cases.append((len(self.trees) - 1, (), (), ()))
         return [len(self.cases) - 1]
 
+    def no_case(self, which):
+        return -2, lambda: which not in range(len(self.cases))
+
     def do(self, which, step):
-        number, stands, owed, done = self.cases[which]
-        if owed:
-            if owed[0] != step:
-                return [-5]
-            owed = owed[1:]
-        else:
-            stands += (step,)
-            if stands not in ways_on(self.trees[number]):
-                return [-5]
-        if len(done) == 5:
-            return [-7]
-        done += (step,)
-        self.cases[which] = (number, stands, owed, done)
-        through = not owed and stands in cases_of(self.trees[number], LONGEST) and self.keeps_all(done)
-        return [len(done), int(self.can_keep(*self.cases[which])), int(through)]
+        refused = self.refusal(
+            (-8, self.worn_out), self.no_case(which),
+            (-5, lambda: self.after(step, *self.cases[which]) is None), (-7, lambda: len(self.cases[which][3]) == 5))
+        if refused:
+            return refused
+        self.cases[which] = self.after(step, *self.cases[which])
+        case = self.cases[which]
+        return [len(case[3]), int(self.can_keep(*case)), int(self.is_through(*case))]
 
     def move(self, which):
-        number, done = self.cases[which][0], self.cases[which][3]
-        if number == len(self.trees) - 1:
-            return [-3]
+        refused = self.refusal(
+            (-8, self.worn_out), self.no_case(which), (-3, lambda: self.cases[which][0] == len(self.trees) - 1))
+        if refused:
+            return refused
+        done = self.cases[which][3]
         best = min(self.ways_over(done), default=None)
         if best is None:
             return [-6]
@@ -144,6 +213,42 @@ class PlainHouse:
         owed = tuple(step for kind, step in best[2] if kind == 2)
         self.cases[which] = (len(self.trees) - 1, stands, owed, done)
         return [best[0], *owed]
+
+    def asked(self, time, which, tell):
+        if time > len(self.done_calls):
+            return [-4]
+        house = self.then(time)
+        return house.refusal(house.no_case(which)) or tell(house, house.cases[which])
+
+    def case(self, time, which):
+        return self.asked(time, which, lambda house, case: [
+            case[0], len(case[1]), *case[1], len(case[2]), *case[2], len(case[3]), *case[3]])
+
+    def allowed(self, time, which):
+        def tell(house, case):
+            behind = [(step, house.after(step, *case)) for step in range(6)]
+            return [int(house.is_through(*case)), *(step for step, after in behind if after and house.can_keep(*after))]
+        return self.asked(time, which, tell)
+
+    def finish(self, time, which):
+        def tell(house, case):
+            way = min(house.ways_that_keep(*case), key=lambda way: (len(way), way), default=None)
+            return [-6] if way is None else [len(case[2] + way), *case[2], *way]
+        return self.asked(time, which, tell)
+
+    def over(self, which):
+        refused = self.refusal(self.no_case(which))
+        if refused:
+            return refused
+        best = min(self.ways_over(self.cases[which][3]), default=None)
+        return [-6] if best is None else [best[0], *itertools.chain(*best[2])]
+
+    def lost(self):
+        found = [which for which, case in enumerate(self.cases) if not self.can_keep(*case)]
+        return [len(found), *found]
+
+    def moment(self):
+        return [len(self.done_calls)]
 
     def ways_over(self, done):
         """All that take it over and owe few steps, each with what it costs and how many moves it has."""
@@ -197,6 +302,8 @@ def some_step(chance, plain, which, steps):
 class SomeLine:
     """A line as it grows, with what the account answers to it."""
 
+    CONSTANT = {"begin": helper.OPEN, "lost": helper.LOST_CASES, "moment": helper.MOMENT}
+
     def __init__(self, chance, most_leaves):
         self.chance = chance
         self.most_leaves = most_leaves
@@ -206,63 +313,125 @@ class SomeLine:
         self.found = []
 
     def call(self, name, *handed):
-        self.calls.append(helper.OPEN if name == "begin" else getattr(helper, name)(*handed))
-        self.found.append(getattr(self.plain, name)(*handed))
+        self.calls.append(self.CONSTANT[name] if name in self.CONSTANT else getattr(helper, name)(*handed))
+        self.found.append(self.plain.call(name, *handed))
+
+    def spoilt(self, told):
+        """Now and then the same, but with a number more, less or changed."""
+        told = list(told)
+        if self.chance.random() < 0.9:
+            return told
+        place = self.chance.randrange(len(told))
+        more = [self.chance.choice((0, 1, 2, 5, 6, 9, 4294967295)) for count in range(self.chance.randrange(2))]
+        return told[:place] + more + told[place + self.chance.randrange(2):]
+
+    def which(self):
+        """Mostly a case that there is."""
+        return self.chance.randrange(len(self.plain.cases) + (self.chance.random() < 0.1) or 1)
+
+    def time(self):
+        """Mostly a moment that there was, and oftener a late one: there are more cases by then."""
+        now = len(self.plain.done_calls)
+        return max(self.chance.randrange(now + 1 + (self.chance.random() < 0.1)) for count in range(2))
 
     def tell(self):
-        self.call("process", some_process(self.chance, self.chance.randint(1, self.most_leaves), self.steps))
+        told = some_process(self.chance, self.chance.randint(1, self.most_leaves), self.steps)
+        self.call("process", self.spoilt(told))
 
     def rule(self):
-        self.call("rule", *some_rule(self.chance, self.steps))
+        self.call("rule", *self.spoilt(some_rule(self.chance, self.steps)))
 
-    def do(self, count):
-        for place in range(count):
-            which = self.chance.randrange(2)
+    def price(self):
+        # Mostly dearer as lost than as owed, for else hardly anything would be owed.
+        told = self.chance.choice(((0, self.chance.randint(2, 6)), (1, self.chance.randint(1, 2))))
+        told = (told[0], self.chance.randrange(self.steps), told[1])
+        spoilt = self.spoilt(told)
+        self.call("price", *(spoilt if len(spoilt) == 3 else told))
+
+    def do(self):
+        which = self.which()
+        if which < len(self.plain.cases):
             self.call("do", which, some_step(self.chance, self.plain, which, self.steps))
+        else:
+            self.call("do", which, 0)
 
-    def move(self):
-        dear = self.chance.choice((1, 4, 9))
-        for step in self.chance.sample(range(self.steps), min(self.steps, 3)):
-            self.call("price", 0, step, self.chance.randint(1, dear))
-            self.call("price", 1, step, self.chance.randint(1, 3))
-        self.tell()
-        self.call("move", 0)
-        self.call("move", 1)
+    def ask(self, name):
+        self.call(name, self.time(), self.which())
+
+    def over_or_move(self, name):
+        which = self.which()
+        newest = len(self.plain.trees) - 1
+        # Mostly to a process told anew, for else there'd be little to move.
+        if newest < 3 and self.chance.random() < 0.7:
+            if which < len(self.plain.cases) and self.plain.cases[which][0] == newest:
+                self.tell()
+        self.call(name, which)
+
+    def add(self, name):
+        """One more call of that name."""
+        if name in ("case", "allowed", "finish"):
+            self.ask(name)
+        elif name in ("move", "over"):
+            self.over_or_move(name)
+        elif name in self.CONSTANT:
+            self.call(name)
+        else:
+            {"process": self.tell, "rule": self.rule, "price": self.price, "do": self.do}[name]()
 
 
-def some_line(chance, most_leaves):
+def some_line(chance, most_leaves, length):
+    """All twelve calls in any order, but a process and a case first, and no more of them than may be asked."""
     made = SomeLine(chance, most_leaves)
-    late = chance.randrange(5)
     made.tell()
-    for name in ("begin", "begin"):
-        made.call(name)
-    made.do(6)
-    for part in range(5):
-        if part == late or (part == 0 and chance.random() < 0.5):
-            made.rule()
-        if part in (1, 3):
-            made.move()
-        if part in (2, 4):
-            made.do(4)
+    made.call("begin")
+    for count in range(chance.randrange(6)):
+        made.price()
+    left = {("move", "over"): 5, ("rule", "do", "allowed", "finish", "lost"): 16, ("case", "allowed", "finish"): 8}
+    often = {"process": 1, "rule": 2, "price": 4, "begin": 2, "do": 20, "move": 5, "case": 2, "allowed": 3, "finish": 4,
+             "over": 3, "lost": 2, "moment": 1}
+    # One short of it, for ahead of a move a process may come.
+    while len(made.calls) < length - 1:
+        names = [name for name in often if all(count > 0 for some, count in left.items() if name in some)]
+        name = chance.choices(names, [often[name] for name in names])[0]
+        for some in left:
+            left[some] -= name in some
+        made.add(name)
     return made
 
 
 class Reference(unittest.TestCase):
-    def check(self, seed, most_leaves):
-        made = some_line(random.Random(seed), most_leaves)
+    def check(self, seed, most_leaves, length):
+        made = some_line(random.Random(seed), most_leaves, length)
         given = helper.taken_apart(answers(helper.line(*made.calls)))
         for call, mine, plain in zip(made.calls, given, made.found, strict=True):
             self.assertEqual(mine, plain, (seed, call, made.calls))
+        return made
 
     def test_lines_of_small_processes(self):
         for seed in range(300):
             with self.subTest(seed=seed):
-                self.check(seed, 3)
+                self.check(seed, 3, 30)
 
     def test_lines_of_larger_processes(self):
-        for seed in range(1000, 1040):
+        for seed in range(1000, 1060):
             with self.subTest(seed=seed):
-                self.check(seed, 4)
+                self.check(seed, 4, 30)
+
+    def test_lines_of_sixty_calls(self):
+        for seed in range(2000, 2040):
+            with self.subTest(seed=seed):
+                self.check(seed, 3, 60)
+
+    def test_there_is_enough_of_everything_in_them(self):
+        """Each call is answered in these lines, and each of its refusals comes."""
+        found = {}
+        for seed in range(300):
+            made = some_line(random.Random(seed), 3, 30)
+            for call, answered in zip(made.calls, made.found):
+                found.setdefault(call[0], set()).add(min(answered[0], 0))
+        expected = ({-1, -7}, {-1, -7}, {-1}, {-7}, {-2, -5, -7}, {-2, -3, -6}, {-2, -4}, {-2, -4}, {-2, -4, -6},
+                    {-2, -6}, set(), set())
+        self.assertEqual([found[number] for number in range(12)], [numbers | {0} for numbers in expected])
 
 
 if __name__ == "__main__":
